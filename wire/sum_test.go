@@ -25,57 +25,66 @@ func plainSum(b []byte) int {
 	return int(reg ^ 0xFFFFFFFF)
 }
 
+// sums are both ways to the checksum: each promise about it is of both.
+var sums = map[string]func([]byte) int{"Sum": wire.Sum, "SumByTable": wire.SumByTable}
+
 func TestP1_1_Sum(t *testing.T) {
-	for _, x := range []struct {
-		b   string
-		sum int
-	}{
-		{"123456789", 0xCBF43926}, {"", 0}, {"\x00", 0xD202EF8D},
-		{"\xFF\xFF\xFF\xFF", 0xFFFFFFFF}, {"\x00\x00\x00\x00", 0x2144DF1C},
-	} {
-		if n := wire.Sum([]byte(x.b)); n != x.sum {
-			t.Errorf("Sum of %q: %X, want %X", x.b, n, x.sum)
+	for name, sum := range sums {
+		for _, x := range []struct {
+			b   string
+			sum int
+		}{
+			{"123456789", 0xCBF43926}, {"", 0}, {"\x00", 0xD202EF8D},
+			{"\xFF\xFF\xFF\xFF", 0xFFFFFFFF}, {"\x00\x00\x00\x00", 0x2144DF1C},
+		} {
+			if n := sum([]byte(x.b)); n != x.sum {
+				t.Errorf("%s of %q: %X, want %X", name, x.b, n, x.sum)
+			}
 		}
-	}
-	if wire.Sum(nil) != 0 {
-		t.Error("Sum of nil is not 0")
-	}
-	r := rand.New(rand.NewSource(1))
-	for n := range 300 {
-		b := make([]byte, n)
-		r.Read(b)
-		if wire.Sum(b) != plainSum(b) {
-			t.Errorf("Sum of % X: %X, want %X", b, wire.Sum(b), plainSum(b))
+		if sum(nil) != 0 {
+			t.Errorf("%s of nil is not 0", name)
 		}
-	}
-	for x := range 1 << 16 {
-		b := []byte{byte(x), byte(x >> 8)}
-		if n := wire.Sum(b); n != plainSum(b) || n < 0 || n > 1<<32-1 {
-			t.Fatalf("Sum of % X: %X, want %X", b, n, plainSum(b))
+		r := rand.New(rand.NewSource(1))
+		for n := range 300 {
+			b := make([]byte, n)
+			r.Read(b)
+			if sum(b) != plainSum(b) {
+				t.Errorf("%s of % X: %X, want %X", name, b, sum(b), plainSum(b))
+			}
+		}
+		for x := range 1 << 16 {
+			b := []byte{byte(x), byte(x >> 8)}
+			if n := sum(b); n != plainSum(b) || n < 0 || n > 1<<32-1 {
+				t.Fatalf("%s of % X: %X, want %X", name, b, n, plainSum(b))
+			}
 		}
 	}
 }
 
 // The table is made once, whoever asks first.
 func TestP1_1_SumAtOnce(t *testing.T) {
-	var wait sync.WaitGroup
-	sums := make([]int, 16)
-	for i := range sums {
-		wait.Go(func() { sums[i] = wire.Sum([]byte("123456789")) })
-	}
-	wait.Wait()
-	for _, n := range sums {
-		if n != 0xCBF43926 {
-			t.Errorf("Sum: %X", n)
+	for name, sum := range sums {
+		var wait sync.WaitGroup
+		found := make([]int, 16)
+		for i := range found {
+			wait.Go(func() { found[i] = sum([]byte("123456789")) })
+		}
+		wait.Wait()
+		for _, n := range found {
+			if n != 0xCBF43926 {
+				t.Errorf("%s: %X", name, n)
+			}
 		}
 	}
 }
 
 func TestP1_5_Sum(t *testing.T) {
-	b := bytes.Repeat([]byte{0xEE}, 40)
-	wire.Sum(b[:30])
-	if bytes.Count(b, []byte{0xEE}) != len(b) {
-		t.Error("Sum changes bytes")
+	for name, sum := range sums {
+		b := bytes.Repeat([]byte{0xEE}, 40)
+		sum(b[:30])
+		if bytes.Count(b, []byte{0xEE}) != len(b) {
+			t.Errorf("%s changes bytes", name)
+		}
 	}
 }
 
@@ -92,14 +101,20 @@ func flip(b []byte, from int, pattern uint32) (flipped bool) {
 }
 
 func TestP1_9(t *testing.T) {
+	for name, sum := range sums {
+		seesFlips(t, name, sum)
+	}
+}
+
+func seesFlips(t *testing.T, name string, sum func([]byte) int) {
 	r := rand.New(rand.NewSource(9))
 	for _, n := range []int{1, 2, 3, 4, 5, 8, 40} {
 		b := make([]byte, n)
 		r.Read(b)
-		sum := wire.Sum(b)
+		was := sum(b)
 		check := func(from int, pattern uint32) {
-			if flip(b, from, pattern) && wire.Sum(b) == sum {
-				t.Errorf("% X: flips %X from bit %d on are not seen", b, pattern, from)
+			if flip(b, from, pattern) && sum(b) == was {
+				t.Errorf("%s of % X: flips %X from bit %d on are not seen", name, b, pattern, from)
 			}
 			flip(b, from, pattern)
 		}
